@@ -1,0 +1,187 @@
+package tests
+
+import (
+	"fmt"
+	"math"
+	"reflect"
+	"strings"
+	"testing"
+)
+
+// farOff are numbers that no limit of the document allows, near to where sums wrap round.
+var farOff = []int{math.MinInt, math.MinInt + 1, math.MaxInt - 7, math.MaxInt - 1, math.MaxInt}
+
+// ask calls f and fails if it panics, writes into an argument, shares memory
+// with one or between two lists of its answer, or looks behind a list's length.
+func ask(t *testing.T, f any, args ...any) []any {
+	t.Helper()
+	plain := askOnce(t, f, args)
+	spare := make([]any, len(args))
+	for k, a := range args {
+		spare[k] = withSpare(reflect.ValueOf(a)).Interface()
+	}
+	roomy := askOnce(t, f, spare)
+	if tell(plain...) != tell(roomy...) {
+		t.Fatalf("%s: what lies behind a list's length tells: %s, with it %s", tell(args...), tell(plain...), tell(roomy...))
+	}
+	return plain
+}
+
+func askOnce(t *testing.T, f any, args []any) (answers []any) {
+	t.Helper()
+	defer func() {
+		if r := recover(); r != nil {
+			t.Fatalf("%s: panic: %v", tell(args...), r)
+		}
+	}()
+	in := make([]reflect.Value, len(args))
+	before := make([]string, len(args))
+	for k, a := range args {
+		in[k] = reflect.ValueOf(a)
+		before[k] = textOf(in[k], true)
+	}
+	out := reflect.ValueOf(f).Call(in)
+	for k, v := range in {
+		if now := textOf(v, true); now != before[k] {
+			t.Fatalf("argument %d was written into: %s is %s now", k, before[k], now)
+		}
+	}
+	refuseShared(t, in, out)
+	for _, v := range out {
+		answers = append(answers, v.Interface())
+	}
+	return answers
+}
+
+// want fails where f's answer is not what is said.
+func want(t *testing.T, said []any, f any, args ...any) {
+	t.Helper()
+	if got := ask(t, f, args...); tell(got...) != tell(said...) {
+		t.Fatalf("of %s: %s, not %s", tell(args...), tell(got...), tell(said...))
+	}
+}
+
+// wantZero fails where f's answer is not the zero answer.
+func wantZero(t *testing.T, f any, args ...any) {
+	t.Helper()
+	var zeros []any
+	for k := range reflect.TypeOf(f).NumOut() {
+		zeros = append(zeros, reflect.Zero(reflect.TypeOf(f).Out(k)).Interface())
+	}
+	want(t, zeros, f, args...)
+}
+
+// tell writes values out; the nil list and the empty one are alike in it.
+func tell(l ...any) string {
+	var parts []string
+	for _, a := range l {
+		parts = append(parts, textOf(reflect.ValueOf(a), false))
+	}
+	return strings.Join(parts, ", ")
+}
+
+// textOf writes a value out; with behind set, also what lies behind each list's length.
+func textOf(v reflect.Value, behind bool) string {
+	var parts []string
+	switch v.Kind() {
+	case reflect.Slice:
+		if behind {
+			v = v.Slice(0, v.Cap())
+		}
+		for k := range v.Len() {
+			parts = append(parts, textOf(v.Index(k), behind))
+		}
+		return "[" + strings.Join(parts, " ") + "]"
+	case reflect.Struct:
+		for k := range v.NumField() {
+			parts = append(parts, textOf(v.Field(k), behind))
+		}
+		return "{" + strings.Join(parts, " ") + "}"
+	}
+	return fmt.Sprintf("%#v", v.Interface())
+}
+
+// withSpare copies a value so that each list of it has room behind its length, filled with what is not good.
+func withSpare(v reflect.Value) reflect.Value {
+	c := reflect.New(v.Type()).Elem()
+	switch v.Kind() {
+	case reflect.Slice:
+		roomy := reflect.MakeSlice(v.Type(), v.Len()+2, v.Len()+2)
+		for k := range v.Len() {
+			roomy.Index(k).Set(withSpare(v.Index(k)))
+		}
+		spoil(roomy.Index(v.Len()))
+		spoil(roomy.Index(v.Len() + 1))
+		c.Set(roomy.Slice(0, v.Len()))
+	case reflect.Struct:
+		for k := range v.NumField() {
+			c.Field(k).Set(withSpare(v.Field(k)))
+		}
+	default:
+		c.Set(v)
+	}
+	return c
+}
+
+func spoil(v reflect.Value) {
+	switch v.Kind() {
+	case reflect.Int:
+		v.SetInt(-77)
+	case reflect.Bool:
+		v.SetBool(true)
+	case reflect.Struct:
+		for k := range v.NumField() {
+			spoil(v.Field(k))
+		}
+	case reflect.Slice:
+		v.Set(reflect.MakeSlice(v.Type(), 1, 1))
+		spoil(v.Index(0))
+	}
+}
+
+// stretch is the memory of a list, up to its capacity.
+type stretch struct {
+	from, to uintptr
+}
+
+func stretchesOf(v reflect.Value) []stretch {
+	var l []stretch
+	switch v.Kind() {
+	case reflect.Slice:
+		if size := uintptr(v.Cap()) * v.Type().Elem().Size(); size > 0 {
+			l = append(l, stretch{v.Pointer(), v.Pointer() + size})
+		}
+		v = v.Slice(0, v.Cap())
+		for k := range v.Len() {
+			l = append(l, stretchesOf(v.Index(k))...)
+		}
+	case reflect.Struct:
+		for k := range v.NumField() {
+			l = append(l, stretchesOf(v.Field(k))...)
+		}
+	}
+	return l
+}
+
+func refuseShared(t *testing.T, in, out []reflect.Value) {
+	t.Helper()
+	var args, answers []stretch
+	for _, v := range in {
+		args = append(args, stretchesOf(v)...)
+	}
+	for _, v := range out {
+		answers = append(answers, stretchesOf(v)...)
+	}
+	for k, a := range answers {
+		for _, b := range args {
+			if a.from < b.to && b.from < a.to {
+				t.Fatal("an answer shares memory with an argument")
+			}
+		}
+		for _, b := range answers[:k] {
+			if a.from < b.to && b.from < a.to {
+				t.Fatal("two lists of one answer share memory")
+			}
+		}
+	}
+}
