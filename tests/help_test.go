@@ -11,6 +11,14 @@ import (
 // farOff are numbers that no limit of the document allows, near to where sums wrap round.
 var farOff = []int{math.MinInt, math.MinInt + 1, math.MaxInt - 7, math.MaxInt - 1, math.MaxInt}
 
+// numbersFrom gives the same run of numbers below n at each run of the tests.
+func numbersFrom(seed uint64) func(n int) int {
+	return func(n int) int {
+		seed = seed*6364136223846793005 + 1442695040888963407
+		return int(seed>>33) % n
+	}
+}
+
 // ask calls f and fails if it panics, writes into an argument, shares memory
 // with one or between two lists of its answer, or looks behind a list's length.
 func ask(t *testing.T, f any, args ...any) []any {

@@ -123,11 +123,7 @@ func TestFailAnyKept(t *testing.T) {
 
 // TestFailBehindAnyDeeds plays many stores, flushes and failures, and holds each memory against the plain one.
 func TestFailBehindAnyDeeds(t *testing.T) {
-	seed := uint64(1)
-	next := func(n int) int {
-		seed = seed*6364136223846793005 + 1442695040888963407
-		return int(seed>>33) % n
-	}
+	next := numbersFrom(1)
 	p, m := &plain{}, impl.NewMemory()
 	for step := range 20000 {
 		ok := false

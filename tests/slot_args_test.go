@@ -188,11 +188,7 @@ func TestReadSlotsNoEpoch(t *testing.T) {
 
 // TestSlotsBehindAnyDeeds plays many writes, commits, stray stores and failures, and reads the slots behind each.
 func TestSlotsBehindAnyDeeds(t *testing.T) {
-	seed := uint64(2)
-	next := func(n int) int {
-		seed = seed*6364136223846793005 + 1442695040888963407
-		return int(seed>>33) % n
-	}
+	next := numbersFrom(2)
 	p, m := &plain{}, impl.NewMemory()
 	for step := range 10000 {
 		ok := false
