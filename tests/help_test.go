@@ -19,8 +19,9 @@ func numbersFrom(seed uint64) func(n int) int {
 	}
 }
 
-// ask calls f and fails if it panics, writes into an argument, shares memory
-// with one or between two lists of its answer, or looks behind a list's length.
+// ask calls f twice and fails if it panics, writes into an argument, shares memory
+// with one, between two lists of its answer or between its two answers, or looks
+// behind a list's length.
 func ask(t *testing.T, f any, args ...any) []any {
 	t.Helper()
 	plain := askOnce(t, f, args)
@@ -29,6 +30,7 @@ func ask(t *testing.T, f any, args ...any) []any {
 		spare[k] = withSpare(reflect.ValueOf(a)).Interface()
 	}
 	roomy := askOnce(t, f, spare)
+	refuseShared(t, "the answer of another call", valuesOf(plain), valuesOf(roomy))
 	if tell(plain...) != tell(roomy...) {
 		t.Fatalf("%s: what lies behind a list's length tells: %s, with it %s", tell(args...), tell(plain...), tell(roomy...))
 	}
@@ -42,11 +44,10 @@ func askOnce(t *testing.T, f any, args []any) (answers []any) {
 			t.Fatalf("%s: panic: %v", tell(args...), r)
 		}
 	}()
-	in := make([]reflect.Value, len(args))
+	in := valuesOf(args)
 	before := make([]string, len(args))
-	for k, a := range args {
-		in[k] = reflect.ValueOf(a)
-		before[k] = textOf(in[k], true)
+	for k, v := range in {
+		before[k] = textOf(v, true)
 	}
 	out := reflect.ValueOf(f).Call(in)
 	for k, v := range in {
@@ -54,11 +55,19 @@ func askOnce(t *testing.T, f any, args []any) (answers []any) {
 			t.Fatalf("argument %d was written into: %s is %s now", k, before[k], now)
 		}
 	}
-	refuseShared(t, in, out)
+	refuseShared(t, "an argument", in, out)
 	for _, v := range out {
 		answers = append(answers, v.Interface())
 	}
 	return answers
+}
+
+func valuesOf(l []any) []reflect.Value {
+	values := make([]reflect.Value, len(l))
+	for k, a := range l {
+		values[k] = reflect.ValueOf(a)
+	}
+	return values
 }
 
 // want fails where f's answer is not what is said.
@@ -171,19 +180,20 @@ func stretchesOf(v reflect.Value) []stretch {
 	return l
 }
 
-func refuseShared(t *testing.T, in, out []reflect.Value) {
+// refuseShared fails where two lists of out are in one memory, or one of them in that of others.
+func refuseShared(t *testing.T, whose string, others, out []reflect.Value) {
 	t.Helper()
-	var args, answers []stretch
-	for _, v := range in {
-		args = append(args, stretchesOf(v)...)
+	var theirs, answers []stretch
+	for _, v := range others {
+		theirs = append(theirs, stretchesOf(v)...)
 	}
 	for _, v := range out {
 		answers = append(answers, stretchesOf(v)...)
 	}
 	for k, a := range answers {
-		for _, b := range args {
+		for _, b := range theirs {
 			if a.from < b.to && b.from < a.to {
-				t.Fatal("an answer shares memory with an argument")
+				t.Fatal("an answer shares memory with " + whose)
 			}
 		}
 		for _, b := range answers[:k] {
