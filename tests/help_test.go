@@ -4,6 +4,7 @@ import (
 	"fmt"
 	"math"
 	"reflect"
+	"strconv"
 	"strings"
 	"testing"
 )
@@ -99,23 +100,37 @@ func tell(l ...any) string {
 
 // textOf writes a value out; with behind set, also what lies behind each list's length.
 func textOf(v reflect.Value, behind bool) string {
-	var parts []string
+	return string(appendText(nil, v, behind))
+}
+
+// appendText writes into one growing text: a test of many calls spends most of its time here.
+func appendText(text []byte, v reflect.Value, behind bool) []byte {
 	switch v.Kind() {
 	case reflect.Slice:
 		if behind {
 			v = v.Slice(0, v.Cap())
 		}
+		text = append(text, '[')
 		for k := range v.Len() {
-			parts = append(parts, textOf(v.Index(k), behind))
+			if k > 0 {
+				text = append(text, ' ')
+			}
+			text = appendText(text, v.Index(k), behind)
 		}
-		return "[" + strings.Join(parts, " ") + "]"
+		return append(text, ']')
 	case reflect.Struct:
+		text = append(text, '{')
 		for k := range v.NumField() {
-			parts = append(parts, textOf(v.Field(k), behind))
+			if k > 0 {
+				text = append(text, ' ')
+			}
+			text = appendText(text, v.Field(k), behind)
 		}
-		return "{" + strings.Join(parts, " ") + "}"
+		return append(text, '}')
+	case reflect.Int:
+		return strconv.AppendInt(text, v.Int(), 10)
 	}
-	return fmt.Sprintf("%#v", v.Interface())
+	return fmt.Appendf(text, "%#v", v.Interface())
 }
 
 // withSpare copies a value so that each list of it has room behind its length, filled with what is not good.
